@@ -1,0 +1,42 @@
+"""What several tests share."""
+
+BIG = 10 ** 59
+
+# Values of each kind that a function may be passed where it takes any value.
+ODD_VALUES = (
+    None, True, False, 0, 1, -1, 7, BIG, -BIG, "", "n", "pay", "program", "two\nlines", "~" * 3500,
+    [], {}, [()], {"pay": 1}, {0: ("stop",)}, [("stop",)], [["pay", 1]], {"a": {"b": [{}]}},
+    "stop", ["stop"],
+)
+
+
+def nest(levels, inner):
+    """The block inner within so many "repeat" statements."""
+    for _ in range(levels):
+        inner = (("repeat", 1, inner),)
+    return inner
+
+
+def deep_list(levels):
+    """A list within a list, so many levels deep."""
+    value = []
+    for _ in range(levels - 1):
+        value = [value]
+    return value
+
+
+def deep_tuple(levels):
+    """A tuple within a tuple, so many levels deep."""
+    value = ()
+    for _ in range(levels - 1):
+        value = (value,)
+    return value
+
+
+def sort_of(value):
+    """The value with the exact classes of all its parts, so that 1 and True, or () and [], are unlike."""
+    if isinstance(value, (tuple, list)):
+        return (type(value), [sort_of(part) for part in value])
+    if isinstance(value, dict):
+        return (type(value), [(sort_of(key), sort_of(part)) for key, part in value.items()])
+    return (type(value), value)

@@ -1,0 +1,113 @@
+"""The rules of LANGUAGE.md that can be asked of the files as they stand, and where the interface lies."""
+
+import ast
+import builtins
+import pathlib
+import re
+import unittest
+
+PACKAGE = pathlib.Path(__file__).resolve().parent.parent / "whichheld"
+FILES = sorted(PACKAGE.glob("*.py"))
+
+INTERFACE = {
+    "programs": ("program_error", "each_statement", "statement_at", "weight", "contrary", "mutants"),
+}
+ALLOWED = (
+    "len range enumerate zip min max sum abs sorted reversed int str bool list tuple dict set isinstance ord "
+    "repr any all divmod iter next Exception ValueError TypeError KeyError IndexError LookupError "
+    "ZeroDivisionError").split()
+BARRED_WORDS = (
+    "type typing typing_extensions enum Enum IntEnum StrEnum Flag IntFlag Generic Protocol ABC ABCMeta "
+    "namedtuple NamedTuple TypedDict TYPE_CHECKING abstractmethod").split()
+BARRED_NAMES = "register mro elements open input law version_info with_traceback add_note".split()
+FUNCTIONS = (ast.FunctionDef, ast.AsyncFunctionDef)
+
+
+def each_file():
+    """The path, the text and the syntax tree of each file of the package."""
+    for path in FILES:
+        text = path.read_text(encoding="ascii")
+        yield path.name, text, ast.parse(text)
+
+
+def names_of(node):
+    """Each name that the node itself gives or uses."""
+    if isinstance(node, ast.Name):
+        return [node.id]
+    if isinstance(node, ast.Attribute):
+        return [node.attr]
+    if isinstance(node, (ast.FunctionDef, ast.ClassDef)):
+        return [node.name]
+    if isinstance(node, ast.arg):
+        return [node.arg]
+    return []
+
+
+class LanguageTest(unittest.TestCase):
+    def test_the_folder(self):
+        others = [path.name for path in PACKAGE.iterdir()
+                  if path.name != "__pycache__" and not re.fullmatch("[a-z0-9_]+[.]py", path.name)]
+        self.assertEqual(others, [])
+        self.assertIn(PACKAGE / "__init__.py", FILES)
+
+    def test_sizes_and_characters(self):
+        for path, text, tree in each_file():
+            lines = text.split("\n")
+            self.assertLessEqual(len(lines), 399, path)
+            self.assertLessEqual(max(len(line) for line in lines), 120, path)
+            self.assertIsNone(re.search("[^ -~\n]", text), path)
+            for node in ast.walk(tree):
+                if isinstance(node, FUNCTIONS):
+                    self.assertLessEqual(node.end_lineno - node.lineno + 1, 40, (path, node.name))
+
+    def test_words(self):
+        for path, text, tree in each_file():
+            found = set(re.findall(r"\w+", text))
+            self.assertEqual(sorted(found & set(BARRED_WORDS)), [], path)
+            self.assertIsNone(re.search("dataclass|overload|contextmanager", text), path)
+
+    def test_imports(self):
+        for path, text, tree in each_file():
+            for node in ast.walk(tree):
+                self.assertNotIsInstance(node, ast.Import, path)
+                if isinstance(node, ast.ImportFrom):
+                    self.assertIn(node, tree.body, path)
+                    self.assertEqual(node.level, 0, path)
+                    self.assertRegex(node.module, r"\Awhichheld[.][a-z]+\Z", path)
+                    self.assertNotIn("*", [alias.name for alias in node.names], path)
+
+    def test_plain_names(self):
+        for path, text, tree in each_file():
+            for node in ast.walk(tree):
+                for name in names_of(node):
+                    plain = re.fullmatch("[A-Za-z][A-Za-z0-9_]*|__[a-z]+__", name)
+                    self.assertIsNotNone(plain, (path, name))
+                    self.assertNotIn(name, BARRED_NAMES, path)
+
+    def test_builtins(self):
+        for path, text, tree in each_file():
+            for node in ast.walk(tree):
+                if isinstance(node, (ast.Name, ast.arg)) and hasattr(builtins, names_of(node)[0]):
+                    self.assertIsInstance(node, ast.Name, (path, names_of(node)))
+                    self.assertIsInstance(node.ctx, ast.Load, (path, names_of(node)))
+                    self.assertIn(node.id, ALLOWED, path)
+
+    def test_lists_stand_in_sums_and_their_kin(self):
+        for path, text, tree in each_file():
+            for node in ast.walk(tree):
+                if isinstance(node, ast.Call) and isinstance(node.func, ast.Name):
+                    if node.func.id in ("any", "all", "sum", "min", "max", "sorted"):
+                        found = [part for part in node.args if isinstance(part, ast.GeneratorExp)]
+                        self.assertEqual(found, [], path)
+
+
+class InterfaceTest(unittest.TestCase):
+    def test_each_function_is_defined_in_its_file(self):
+        for name, wanted in INTERFACE.items():
+            tree = ast.parse((PACKAGE / (name + ".py")).read_text(encoding="ascii"))
+            defined = [node.name for node in tree.body if isinstance(node, (ast.FunctionDef, ast.ClassDef))]
+            self.assertEqual([word for word in wanted if word not in defined], [])
+
+
+if __name__ == "__main__":
+    unittest.main()

@@ -1,0 +1,1 @@
+"""Whichheld: which of some programs lies in the box."""
