@@ -11,6 +11,9 @@ FILES = sorted(PACKAGE.glob("*.py"))
 
 INTERFACE = {
     "programs": ("program_error", "each_statement", "statement_at", "weight", "contrary", "mutants"),
+    "runs": ("run", "sign"),
+    "families": ("family_error", "signs_at"),
+    "tables": ("signs_of", "signs_hold", "kinds_of"),
 }
 ALLOWED = (
     "len range enumerate zip min max sum abs sorted reversed int str bool list tuple dict set isinstance ord "
@@ -99,6 +102,21 @@ class LanguageTest(unittest.TestCase):
                     if node.func.id in ("any", "all", "sum", "min", "max", "sorted"):
                         found = [part for part in node.args if isinstance(part, ast.GeneratorExp)]
                         self.assertEqual(found, [], path)
+
+    def test_stars_in_calls_stand_ahead_of_names(self):
+        for path, text, tree in each_file():
+            for node in ast.walk(tree):
+                for part in node.args if isinstance(node, ast.Call) else ():
+                    if isinstance(part, ast.Starred):
+                        self.assertIsInstance(part.value, (ast.Name, ast.Attribute, ast.Tuple, ast.List), path)
+
+    def test_no_module_imports_one_that_imports_it(self):
+        needs = {path[:-3]: [node.module.split(".")[1] for node in tree.body if isinstance(node, ast.ImportFrom)]
+                 for path, text, tree in each_file()}
+        while needs:
+            free = [name for name in needs if not [other for other in needs[name] if other in needs]]
+            self.assertNotEqual(free, [], needs)
+            needs = {name: others for name, others in needs.items() if name not in free}
 
 
 class InterfaceTest(unittest.TestCase):
