@@ -247,6 +247,22 @@ class WrongTablesTest(Kit):
         self.check(PLAIN, ((0, 2, None, 100, (0,)), (1, 2, None, 100, (0,)), (0, 3, 101, None, (0,)),
                            (1, 3, 101, None, (0,)), (1, 3, 104, None, (0,))), False)
 
+    def test_an_integer_twice_and_another_one_not(self):
+        # The rests by 4 and by 6 meet at each multiple of 12, so the periods share a factor.
+        outer = ((0, 1, None, -1, (0,)), (0, 1, 24, None, (0,)))
+        for rest in (0, 2):
+            for low, high in ((0, 23), (5, 14), (8, 8), (20, 20)):
+                fours = [n for n in range(low, high + 1) if n % 4 == rest]
+                for other in range(0, 6, 2):
+                    sixes = [n for n in range(24) if n % 6 == other]
+                    if not fours or not sixes:
+                        continue
+                    shared = [n for n in fours if n in sixes]
+                    free = [n for n in range(24) if n not in fours + sixes]
+                    rows = (*outer, (rest, 4, low, high, (0,)), (other, 6, 0, 23, (0,)))
+                    singles = [(0, 1, n, n, (0,)) for n in free[len(shared):]]
+                    self.check(PLAIN, (*rows, *singles), not shared)
+
     def test_a_gap_between_the_halves(self):
         below, above = (0, 1, None, -1, (0,)), (0, 1, 1, None, (0,))
         self.check(PLAIN, (below, above), False)
@@ -294,6 +310,12 @@ class WrongFormsTest(Kit):
         self.check(PLAIN, ((0, 1, None, 0, (0,)), (0, 1, True, None, (0,))), False)
         self.check(PLAIN, ((0, 1, None, False, (0,)), (0, 1, 1, None, (0,))), False)
         self.check(PLAIN, ((0, 1, None, 0, (0,)), (0, 1, 1, None, (0,))), True)
+
+    def test_bools_beside_integers(self):
+        for signs in ((1, True), (True, 1), (True, True)):
+            self.check(FAMILY, with_row(ROWS, 4, (*ROWS[4][:4], signs)), False)
+        for signs in ((1, False), (True, 0), (True, False)):
+            self.check(FAMILY, with_row(ROWS, 3, (*ROWS[3][:4], signs)), False)
 
     def test_signs_in_a_list(self):
         self.check(PLAIN, ((0, 1, None, None, [0]),), False)
@@ -346,6 +368,31 @@ class RandomTest(Kit):
             self.check(PLAIN, rows, wanted)
             counts[wanted] += 1
         self.assertGreater(min(counts.values()), 500)
+
+    def mixed_rows(self, source):
+        """Rows of several periods, with several bounds for each, that are about each integer once."""
+        rows, taken = [(0, 1, None, -1, (0,)), (0, 1, 40, None, (0,))], []
+        for _ in range(40):
+            by = source.choice((2, 3, 4, 6))
+            low, rest = source.randrange(40), source.randrange(by)
+            high = min(39, low + source.randrange(30))
+            numbers = [n for n in range(low, high + 1) if n % by == rest]
+            if numbers and not [n for n in numbers if n in taken]:
+                rows.append((rest, by, low, high, (0,)))
+                taken.extend(numbers)
+        return rows, taken, [(0, 1, n, n, (0,)) for n in range(40) if n not in taken]
+
+    def test_one_integer_moved(self):
+        source = random.Random(19)
+        for _ in range(400):
+            rows, taken, singles = self.mixed_rows(source)
+            if not singles:
+                continue
+            self.check(PLAIN, tuple(source.sample(rows + singles, len(rows + singles))), True)
+            for by in (1, 2, 3, 4, 5, 6):
+                number = source.choice(taken)
+                moved = rows + singles[1:] + [(number % by, by, number, number, (0,))]
+                self.check(PLAIN, tuple(source.sample(moved, len(moved))), False)
 
     def test_signs_of_other_families(self):
         source = random.Random(18)

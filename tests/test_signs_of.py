@@ -147,6 +147,17 @@ class KindsTest(Kit):
         family = ((("if", ("rest", "n", 5, 2), (("pay", ("minus", "n", 10)),), ()),),)
         self.check(family, (((-1,), 2), ((0,), 0), ((1,), 12)))
 
+    def test_rests_beside_a_bound(self):
+        for low in range(-8, 9):
+            for high in range(low, 9):
+                for by in (2, 5, 6):
+                    for rest in range(by):
+                        inner = ("if", ("rest", "n", by, rest), (("pay", 1),), ())
+                        family = ((("if", ("less", "n", low), (), (("if", ("less", high, "n"), (), (inner,)),)),),)
+                        first = [number for number in in_order(20) if low <= number <= high and number % by == rest]
+                        none = [number for number in in_order(20) if number not in first][0]
+                        self.check(family, (((0,), none), *[((1,), number) for number in first[:1]]))
+
     def test_far_from_0(self):
         self.check((FAR,), (((-1,), 0), ((0,), FAR_ZERO), ((1,), FAR_ZERO + 1)))
         self.check((contrary(FAR), PAY), (

@@ -153,10 +153,8 @@ def has_signs(row, table):
 
 
 def fitted(row):
-    """The row without its signs, and with bounds that have its rest themselves."""
+    """The row without its signs, and with a bound above that has its rest itself."""
     rest, by, low, high = row[:4]
-    if low is not None:
-        low += (rest - low) % by
     if high is not None:
         high -= (high - rest) % by
     return (rest, by, low, high)
@@ -242,6 +240,6 @@ def is_whole(periods):
 def many_between(row, first, last):
     """How many integers from first to last are in the fitted row, whose bounds are between these."""
     rest, by, low, high = row
-    start = first + (rest - first) % by if low is None else low
+    start = first if low is None else low
     end = last - (last - rest) % by if high is None else high
     return (end - start) // by + 1
