@@ -40,3 +40,17 @@ def sort_of(value):
     if isinstance(value, dict):
         return (type(value), [(sort_of(key), sort_of(part)) for key, part in value.items()])
     return (type(value), value)
+
+
+def in_order(count):
+    """The first so many integers in the order of inputs."""
+    numbers = [0]
+    while len(numbers) < count:
+        size = (len(numbers) + 1) // 2
+        numbers.extend([size, -size])
+    return numbers[:count]
+
+
+def place_of(number):
+    """How many integers come ahead of the number in the order of inputs."""
+    return 2 * abs(number) - (number > 0)

@@ -14,6 +14,9 @@ INTERFACE = {
     "runs": ("run", "sign"),
     "families": ("family_error", "signs_at"),
     "tables": ("signs_of", "signs_hold", "kinds_of"),
+    "verdicts": ("parted", "kin", "where", "kills", "kills_hold", "unkilled"),
+    "hearing": ("heard_error", "left"),
+    "plans": ("tries", "plan_of", "plan_holds"),
 }
 ALLOWED = (
     "len range enumerate zip min max sum abs sorted reversed int str bool list tuple dict set isinstance ord "

@@ -8,15 +8,10 @@ from whichheld.families import family_error
 from whichheld.programs import contrary
 from whichheld.tables import kinds_of, signs_hold, signs_of
 from heavies import FAR, FAR_ZERO, HEAVY, PAY, STOP, each_family, numbers_for, rows_about
-from kit import sort_of
+from kit import in_order, sort_of
 from makers import denied, random_family, renamed, second_signs, written_out
 
 THIRD = ((("if", ("rest", "n", 3, 2), (("pay", 1),), ()),),)
-
-
-def in_order(count):
-    """The first so many integers in the order of inputs."""
-    return [0] + [number for size in range(1, count // 2 + 1) for number in (size, -size)]
 
 
 class Kit(unittest.TestCase):
@@ -154,8 +149,8 @@ class KindsTest(Kit):
                     for rest in range(by):
                         inner = ("if", ("rest", "n", by, rest), (("pay", 1),), ())
                         family = ((("if", ("less", "n", low), (), (("if", ("less", high, "n"), (), (inner,)),)),),)
-                        first = [number for number in in_order(20) if low <= number <= high and number % by == rest]
-                        none = [number for number in in_order(20) if number not in first][0]
+                        first = [number for number in in_order(21) if low <= number <= high and number % by == rest]
+                        none = [number for number in in_order(21) if number not in first][0]
                         self.check(family, (((0,), none), *[((1,), number) for number in first[:1]]))
 
     def test_far_from_0(self):
@@ -176,7 +171,7 @@ class KindsTest(Kit):
             kinds = kinds_of(family)
             self.assertEqual(list(kinds), sorted(kinds))
             found = {}
-            for number in in_order(400):
+            for number in in_order(401):
                 found.setdefault(second_signs(family, number), number)
             for signs, number in kinds:
                 self.assertEqual(sort_of(second_signs(family, number)), sort_of(signs))
