@@ -3,10 +3,21 @@
 from heavies import FAR, FAR_ZERO
 
 
+# As FAR begins, but twice less, so that more statements have room.
+LIGHT = FAR[:3] + (("repeat", 6, FAR[3][2]),)
+LIGHT_ZERO = 7 * 81 ** 22
+
+
 def at_far(sign):
     """A program with the sign of n - FAR_ZERO, but at FAR_ZERO itself with this one."""
     twice = ("pay", ("minus", ("times", 2, "n"), ("times", 2, "b")))
     return FAR[:-1] + ((twice,) if sign == 0 else (twice, ("pay", sign)))
+
+
+def at_light(sign):
+    """A program with the sign of n - LIGHT_ZERO, but at LIGHT_ZERO itself with this one; it has a contrary."""
+    twice = (("pay", ("minus", "n", "b")),) * 2
+    return LIGHT + (twice if sign == 0 else (*twice, ("pay", sign)))
 
 
 def at_near(number, sign):
@@ -32,6 +43,7 @@ def single(number, sign=1):
 
 
 FAR_THREE = (at_far(0), at_far(1), at_far(-1))
+LIGHT_THREE = tuple([at_light(sign) for sign in (0, 1, -1)])
 
 # Each program has the sign 1 at rests that no other one has.
 STARS = tuple([marked(6, rest) for rest in range(5)])

@@ -54,3 +54,10 @@ def in_order(count):
 def place_of(number):
     """How many integers come ahead of the number in the order of inputs."""
     return 2 * abs(number) - (number > 0)
+
+
+# Values that are no tuples of integers.
+NO_NUMBERS = (
+    *[value for value in ODD_VALUES if not isinstance(value, tuple)], [0], [1, 2], {0: 1}, "0", deep_list(20),
+    (True,), (False,), (1, True), (0, False), (None,), ("0",), ((0,),), ([0],), (0, (1,)), ({},), deep_tuple(20),
+    ((("pay", "n"),),), (("pay", "n"),), ((0, 1, None, None, (0,)),), (0, None))

@@ -48,7 +48,8 @@ class ExamplesTest(unittest.TestCase):
 NAMES = (
     "program_error(", "each_statement(", "weight(", "contrary(", "mutants(", "run(", "sign(", "family_error(",
     "signs_at(", "signs_of(", "signs_hold(", "kinds_of(", "parted(", "kin(", "where(", "kills(", "kills_hold(", "unkilled(",
-    "heard_error(", "left(", "tries(", "plan_holds(", "plan_of(")
+    "heard_error(", "left(", "tries(", "plan_holds(", "plan_of(", "ahead_of(", "ahead_holds(", "family_text(",
+    "parse_family(", "Bench(", "FairBench(", "Console(")
 
 
 if __name__ == "__main__":

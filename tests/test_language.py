@@ -17,6 +17,10 @@ INTERFACE = {
     "verdicts": ("parted", "kin", "where", "kills", "kills_hold", "unkilled"),
     "hearing": ("heard_error", "left"),
     "plans": ("tries", "plan_of", "plan_holds"),
+    "aheads": ("ahead_of", "ahead_holds"),
+    "texts": ("family_text", "parse_family"),
+    "benches": ("Bench", "FairBench"),
+    "consoles": ("Console",),
 }
 ALLOWED = (
     "len range enumerate zip min max sum abs sorted reversed int str bool list tuple dict set isinstance ord "
@@ -26,6 +30,24 @@ BARRED_WORDS = (
     "type typing typing_extensions enum Enum IntEnum StrEnum Flag IntFlag Generic Protocol ABC ABCMeta "
     "namedtuple NamedTuple TypedDict TYPE_CHECKING abstractmethod").split()
 BARRED_NAMES = "register mro elements open input law version_info with_traceback add_note".split()
+METHODS = {
+    ("benches", "Bench"): (
+        "__init__(self, family, heard=(), lies=0)", "add(self, program)", "drop(self, index)", "change(self, index, program)",
+        "hear(self, number, sign)", "allow(self, lies)", "__getitem__(self, at)", "__setitem__(self, at, worth)",
+        "__iadd__(self, other)", "__isub__(self, other)", "__len__(self)", "__str__(self)", "__eq__(self, other)",
+        "try_next(self, sign)", "undo(self)", "redo(self)", "attempt(self, edits, *, watch=None)", "left(self)", "tries(self)",
+        "to_try(self)", "told(self, number, *, version=None)", "state(self, *, version=None)", "edits(self)"),
+    ("benches", "FairBench"): ("__init__(self, family, heard=(), lies=0)",),
+    ("consoles", "Console"): ("__init__(self, bench)", "execute(self, line)"),
+}
+ARGUMENTS = (
+    "program_error(value)", "each_statement(program)", "statement_at(program, place)", "weight(program)", "contrary(program)",
+    "mutants(program)", "run(program, number)", "sign(program, number)", "family_error(value)", "signs_at(family, number)",
+    "signs_of(family)", "signs_hold(family, value)", "kinds_of(family)", "parted(one, other)", "kin(family)",
+    "where(family, signs)", "kills(family)", "kills_hold(family, value)", "unkilled(program)", "heard_error(value)",
+    "left(family, heard, lies)", "tries(family, heard, lies)", "plan_of(family, heard, lies)",
+    "plan_holds(family, heard, lies, most, value)", "ahead_of(family, lies)", "ahead_holds(family, lies, value)",
+    "family_text(family)", "parse_family(value)")
 FUNCTIONS = (ast.FunctionDef, ast.AsyncFunctionDef)
 
 
@@ -113,6 +135,26 @@ class LanguageTest(unittest.TestCase):
                     if isinstance(part, ast.Starred):
                         self.assertIsInstance(part.value, (ast.Name, ast.Attribute, ast.Tuple, ast.List), path)
 
+    def test_methods_and_attributes_have_names_of_their_own(self):
+        methods, attributes = set(), set()
+        for path, text, tree in each_file():
+            for node in ast.walk(tree):
+                if isinstance(node, ast.ClassDef):
+                    methods.update(part.name for part in node.body if isinstance(part, ast.FunctionDef))
+                if isinstance(node, ast.Attribute) and isinstance(node.ctx, ast.Store):
+                    attributes.add(node.attr)
+        self.assertEqual(sorted(methods & attributes), [])
+
+    def test_no_local_name_is_that_of_an_import_or_a_class(self):
+        for path, text, tree in each_file():
+            taken = {alias.name for node in tree.body if isinstance(node, ast.ImportFrom) for alias in node.names}
+            taken |= {node.name for node in tree.body if isinstance(node, ast.ClassDef)}
+            for node in ast.walk(tree):
+                if isinstance(node, ast.arg):
+                    self.assertNotIn(node.arg, taken, path)
+                if isinstance(node, ast.Name) and isinstance(node.ctx, ast.Store):
+                    self.assertNotIn(node.id, taken, path)
+
     def test_no_module_imports_one_that_imports_it(self):
         needs = {path[:-3]: [node.module.split(".")[1] for node in tree.body if isinstance(node, ast.ImportFrom)]
                  for path, text, tree in each_file()}
@@ -128,6 +170,19 @@ class InterfaceTest(unittest.TestCase):
             tree = ast.parse((PACKAGE / (name + ".py")).read_text(encoding="ascii"))
             defined = [node.name for node in tree.body if isinstance(node, (ast.FunctionDef, ast.ClassDef))]
             self.assertEqual([word for word in wanted if word not in defined], [])
+
+    def test_arguments(self):
+        found = []
+        for path, text, tree in each_file():
+            found.extend([f"{node.name}({ast.unparse(node.args)})" for node in tree.body if isinstance(node, ast.FunctionDef)])
+        self.assertEqual([wanted for wanted in ARGUMENTS if wanted not in found], [])
+
+    def test_each_method_is_defined_in_its_class(self):
+        for (name, word), wanted in METHODS.items():
+            tree = ast.parse((PACKAGE / (name + ".py")).read_text(encoding="ascii"))
+            body = [node.body for node in tree.body if isinstance(node, ast.ClassDef) and node.name == word][0]
+            found = [f"{node.name}({ast.unparse(node.args)})" for node in body if isinstance(node, ast.FunctionDef)]
+            self.assertEqual([one for one in wanted if one not in found], [])
 
 
 if __name__ == "__main__":

@@ -10,16 +10,12 @@ from whichheld.programs import contrary, mutants
 from whichheld.runs import sign
 from whichheld.tables import kinds_of, signs_of
 from whichheld.verdicts import kills, kills_hold, kin, parted, unkilled, where
-from fars import FAR_THREE, STARS, STEPS, at_far, at_near, marked, moved, single
+from fars import FAR_THREE, LIGHT, LIGHT_THREE, LIGHT_ZERO, STARS, STEPS, at_far, at_near, marked, moved, single
 from heavies import FAR, FAR_ZERO, HEAVY, PAY, STOP, each_family, edges, numbers_for
-from kit import BIG, ODD_VALUES, deep_list, deep_tuple, in_order, place_of, sort_of
+from kit import BIG, NO_NUMBERS, ODD_VALUES, deep_list, deep_tuple, in_order, place_of, sort_of
 from makers import denied, random_family, random_program, renamed, second_signs, written_out
 
 TWICE = (("pay", ("times", 2, "n")),)
-NO_NUMBERS = (
-    *[value for value in ODD_VALUES if not isinstance(value, tuple)], [0], [1, 2], {0: 1}, "0", deep_list(20),
-    (True,), (False,), (1, True), (0, False), (None,), ("0",), ((0,),), ([0],), (0, (1,)), ({},), deep_tuple(20),
-    (PAY, PAY), PAY, ((0, 1, None, None, (0,)),), (0, None))
 
 
 class Kit(unittest.TestCase):
@@ -49,17 +45,20 @@ class PartedTest(Kit):
             self.check_both(one, other, wanted)
 
     def test_a_single_number_far_from_0(self):
-        self.assertIsNone(family_error(FAR_THREE))
+        for family in (FAR_THREE, LIGHT_THREE, tuple([moved(program, 57) for program in LIGHT_THREE]),
+                       tuple([contrary(program) for program in LIGHT_THREE])):
+            self.assertIsNone(family_error(family))
         self.assertEqual([second_signs(FAR_THREE, FAR_ZERO + n) for n in (-1, 0, 1)],
                          [(-1, -1, -1), (0, 1, -1), (1, 1, 1)])
         for one, other in itertools.combinations(FAR_THREE, 2):
             self.check_both(one, other, FAR_ZERO)
-            self.check_both(contrary(one), contrary(other), FAR_ZERO)
-            self.check_both(moved(one, 57), moved(other, 57), FAR_ZERO - 57)
+        for one, other in itertools.combinations(LIGHT_THREE, 2):
+            self.check_both(moved(one, 57), moved(other, 57), LIGHT_ZERO - 57)
+            self.check_both(contrary(one), contrary(other), LIGHT_ZERO)
         self.check_both(FAR, at_far(1), FAR_ZERO)
         self.check_both(FAR, at_far(0), None)
-        below = [FAR[:-1] + (("pay", ("plus", "n", "b")),), FAR[:-1] + (("pay", ("plus", "n", "b")),) * 2 + (("pay", 1),)]
-        self.check_both(*below, -FAR_ZERO)
+        below = [LIGHT + (("pay", ("plus", "n", "b")),), LIGHT + (("pay", ("plus", "n", "b")),) * 2 + (("pay", 1),)]
+        self.check_both(*below, -LIGHT_ZERO)
 
     def test_a_single_number_near_0(self):
         for number in range(-99, 100):
@@ -196,7 +195,7 @@ class KillsTest(Kit):
         self.check_kills(((), single(3), single(-3), single(3, -1), single(-3, -1)), 2)
         self.check_kills(FAR_THREE, 1)
         self.assertEqual(kills(FAR_THREE), (FAR_ZERO,))
-        self.assertEqual(kills((*FAR_THREE[:2], moved(FAR_THREE[0], 5))), (FAR_ZERO,))
+        self.assertEqual(kills((*LIGHT_THREE[:2], moved(LIGHT_THREE[0], 5))), (LIGHT_ZERO,))
 
     def test_the_order_of_inputs(self):
         self.check(kills, (((), single(-7), single(7), single(3), single(-90)),), (3, 7, -7, -90))
