@@ -197,6 +197,13 @@ class KillsTest(Kit):
         self.assertEqual(kills(FAR_THREE), (FAR_ZERO,))
         self.assertEqual(kills((*LIGHT_THREE[:2], moved(LIGHT_THREE[0], 5))), (LIGHT_ZERO,))
 
+    def test_numbers_that_are_taken_first_but_not_needed(self):
+        # Each number kills two programs that stand side by side in a ring, but two numbers that overlap do not do.
+        ring = [marked(6, rest) + marked(6, (rest + 1) % 4) for rest in range(4)]
+        self.assertIsNone(family_error(((), *ring)))
+        for order in itertools.permutations(ring):
+            self.check_kills(((), *order), 2)
+
     def test_the_order_of_inputs(self):
         self.check(kills, (((), single(-7), single(7), single(3), single(-90)),), (3, 7, -7, -90))
         self.check(kills, (((), single(-7), single(6), single(-3)),), (-3, 6, -7))

@@ -23,21 +23,21 @@ def family_text(family):
     lines = [HEAD]
     for program in family:
         lines.append(PROGRAM)
-        lines.extend(lines_of(program, 0))
+        lines.extend(block_lines(program, 0))
     return "\n".join(lines)
 
 
-def lines_of(block, depth):
+def block_lines(block, depth):
     """The list of the lines of the block, whose statements lie in so many others."""
     lines = []
     for statement in block:
-        lines.append(indented(line_of(statement), depth))
+        lines.append(indented(statement_line(statement), depth))
         blocks = blocks_of(statement)
         if blocks:
-            lines.extend(lines_of(blocks[0], depth + 1) or [indented("pass", depth + 1)])
+            lines.extend(block_lines(blocks[0], depth + 1) or [indented("pass", depth + 1)])
         if len(blocks) > 1 and blocks[1]:
             lines.append(indented("else", depth))
-            lines.extend(lines_of(blocks[1], depth + 1))
+            lines.extend(block_lines(blocks[1], depth + 1))
     return lines
 
 
@@ -46,7 +46,7 @@ def indented(line, depth):
     return " " * (MARGIN + STEP * depth) + line
 
 
-def line_of(statement):
+def statement_line(statement):
     """The line of the statement, without the spaces ahead of it."""
     word = statement[0]
     if word == "stop":
